@@ -1,0 +1,105 @@
+package tests
+
+import (
+	"bytes"
+	"testing"
+
+	"loop.example/g00089/impl"
+)
+
+// sequence tells numbers that look mixed but are the same in every run.
+type sequence struct {
+	state uint64
+}
+
+func (s *sequence) next() uint64 {
+	s.state = s.state*6364136223846793005 + 1442695040888963407
+	return s.state >> 33
+}
+
+func (s *sequence) list(length int) []byte {
+	list := make([]byte, length)
+	for i := range list {
+		list[i] = byte(s.next())
+	}
+	return list
+}
+
+func (s *sequence) rows(count, length int) [][]byte {
+	rows := make([][]byte, count)
+	for i := range rows {
+		rows[i] = s.list(length)
+	}
+	return rows
+}
+
+// roomy puts a list into a longer one, so that a write behind its end shows as well.
+func roomy(list []byte) []byte {
+	whole := append(bytes.Clone(list), 0xa5, 0x5a, 0xa5, 0x5a)
+	return whole[:len(list)]
+}
+
+func roomyRows(rows [][]byte) [][]byte {
+	whole := make([][]byte, 0, len(rows)+2)
+	for _, row := range rows {
+		whole = append(whole, roomy(row))
+	}
+	whole = append(whole, []byte{1, 2}, []byte{3})
+	return whole[:len(rows)]
+}
+
+func wholeOf(list []byte) []byte {
+	return bytes.Clone(list[:cap(list)])
+}
+
+func wholeRows(rows [][]byte) [][]byte {
+	all := [][]byte{}
+	for _, row := range rows[:cap(rows)] {
+		all = append(all, wholeOf(row))
+	}
+	return all
+}
+
+func sameRows(a, b [][]byte) bool {
+	if len(a) != len(b) {
+		return false
+	}
+	for i := range a {
+		if !bytes.Equal(a[i], b[i]) {
+			return false
+		}
+	}
+	return true
+}
+
+// spoil writes over all memory that an answer has.
+func spoil(list []byte) {
+	list = list[:cap(list)]
+	for i := range list {
+		list[i] ^= 0xff
+	}
+}
+
+func wantCode(t *testing.T, what string, got impl.BytesResult, code int64) {
+	t.Helper()
+	if got.Code != code {
+		t.Errorf("%s: code %d, want %d", what, got.Code, code)
+	}
+	if got.Code != impl.OK && len(got.Bytes) != 0 {
+		t.Errorf("%s: code %d beside %d bytes", what, got.Code, len(got.Bytes))
+	}
+}
+
+func wantBytes(t *testing.T, what string, got impl.BytesResult, want []byte) {
+	t.Helper()
+	if got.Code != impl.OK || !bytes.Equal(got.Bytes, want) {
+		t.Errorf("%s: code %d, bytes %v, want %v", what, got.Code, got.Bytes, want)
+	}
+}
+
+func wantInt(t *testing.T, what string, got impl.IntResult, want impl.IntResult) {
+	t.Helper()
+	if got != want {
+		t.Errorf("%s: %v, want %v", what, got, want)
+	}
+}
