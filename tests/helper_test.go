@@ -60,6 +60,14 @@ func wholeRows(rows [][]byte) [][]byte {
 	return all
 }
 
+func cloneRows(rows [][]byte) [][]byte {
+	all := make([][]byte, len(rows))
+	for i := range rows {
+		all[i] = bytes.Clone(rows[i])
+	}
+	return all
+}
+
 func sameRows(a, b [][]byte) bool {
 	if len(a) != len(b) {
 		return false
@@ -97,9 +105,63 @@ func wantBytes(t *testing.T, what string, got impl.BytesResult, want []byte) {
 	}
 }
 
+func wantBlocksCode(t *testing.T, what string, got impl.BlocksResult, code int64) {
+	t.Helper()
+	if got.Code != code {
+		t.Errorf("%s: code %d, want %d", what, got.Code, code)
+	}
+	if got.Code != impl.OK && len(got.Blocks) != 0 {
+		t.Errorf("%s: code %d beside %d blocks", what, got.Code, len(got.Blocks))
+	}
+}
+
+func wantBlocks(t *testing.T, what string, got impl.BlocksResult, want [][]byte) {
+	t.Helper()
+	if got.Code != impl.OK || !sameRows(got.Blocks, want) {
+		t.Errorf("%s: code %d, blocks %v, want %v", what, got.Code, got.Blocks, want)
+	}
+}
+
 func wantInt(t *testing.T, what string, got impl.IntResult, want impl.IntResult) {
 	t.Helper()
 	if got != want {
 		t.Errorf("%s: %v, want %v", what, got, want)
+	}
+}
+
+// wantKept holds a call against promise 1; lists are the arguments that it has.
+func wantKept(t *testing.T, name string, call func() impl.BytesResult, lists ...[][]byte) {
+	t.Helper()
+	wantListsKept(t, name, func() (int64, [][]byte) {
+		answer := call()
+		return answer.Code, [][]byte{answer.Bytes}
+	}, lists...)
+}
+
+func wantListsKept(t *testing.T, name string, call func() (int64, [][]byte), lists ...[][]byte) {
+	t.Helper()
+	var before [][][]byte
+	for _, rows := range lists {
+		before = append(before, wholeRows(rows))
+	}
+	code, first := call()
+	answer := cloneRows(first)
+	secondCode, second := call()
+	for i := range first {
+		spoil(first[i])
+		if !sameRows(first[i+1:], answer[i+1:]) {
+			t.Errorf("%s: the list %d shares memory with one behind it", name, i)
+		}
+	}
+	if secondCode != code || !sameRows(second, answer) {
+		t.Errorf("%s: answers differ, or share memory", name)
+	}
+	for i, rows := range lists {
+		if !sameRows(before[i], wholeRows(rows)) {
+			t.Errorf("%s: an argument is changed", name)
+		}
+	}
+	if thirdCode, third := call(); thirdCode != code || !sameRows(third, answer) {
+		t.Errorf("%s: an answer that is written over changes the next one", name)
 	}
 }

@@ -1,7 +1,6 @@
 package tests
 
 import (
-	"bytes"
 	"math"
 	"testing"
 
@@ -436,30 +435,6 @@ func TestFieldKeepsItsArguments(t *testing.T) {
 			"RankG":           func() impl.BytesResult { return impl.BytesResult{Bytes: []byte{byte(impl.RankG(rows).Value)}} },
 		} {
 			wantKept(t, name, call, [][]byte{a, b}, rows, dependent)
-		}
-	}
-}
-
-func wantKept(t *testing.T, name string, call func() impl.BytesResult, lists ...[][]byte) {
-	t.Helper()
-	var before [][][]byte
-	for _, rows := range lists {
-		before = append(before, wholeRows(rows))
-	}
-	first := call()
-	code, answer := first.Code, bytes.Clone(first.Bytes)
-	second := call()
-	spoil(first.Bytes)
-	if second.Code != code || !bytes.Equal(second.Bytes, answer) {
-		t.Errorf("%s: answers differ, or share memory", name)
-	}
-	third := call()
-	if third.Code != code || !bytes.Equal(third.Bytes, answer) {
-		t.Errorf("%s: an answer that is written over changes the next one", name)
-	}
-	for i, rows := range lists {
-		if !sameRows(before[i], wholeRows(rows)) {
-			t.Errorf("%s: an argument is changed", name)
 		}
 	}
 }
