@@ -122,6 +122,23 @@ func wantBlocks(t *testing.T, what string, got impl.BlocksResult, want [][]byte)
 	}
 }
 
+func wantListsCode(t *testing.T, what string, got impl.ListsResult, code int64) {
+	t.Helper()
+	if got.Code != code {
+		t.Errorf("%s: code %d, want %d", what, got.Code, code)
+	}
+	if got.Code != impl.OK && len(got.Lists) != 0 {
+		t.Errorf("%s: code %d beside %d lists", what, got.Code, len(got.Lists))
+	}
+}
+
+func wantLists(t *testing.T, what string, got impl.ListsResult, want [][]byte) {
+	t.Helper()
+	if got.Code != impl.OK || !sameRows(got.Lists, want) {
+		t.Errorf("%s: code %d, lists %v, want %v", what, got.Code, got.Lists, want)
+	}
+}
+
 func wantInt(t *testing.T, what string, got impl.IntResult, want impl.IntResult) {
 	t.Helper()
 	if got != want {
