@@ -179,14 +179,20 @@ func TestCodesAndTheirOrder(t *testing.T) {
 		wantFlaws(t, f.name, f.given, f.flaws, func(t *testing.T, what string, q request, code int64) {
 			t.Helper()
 			got := f.call(q)
-			if got.Code != code {
-				t.Errorf("%s: code %d, want %d", what, got.Code, code)
-			}
-			told := got.Code == impl.ErrDown && !q.World.Down
-			if got.Code != impl.OK && !told && !same(got, reply{Code: got.Code}) {
-				t.Errorf("%s: something stands beside the code %d", what, got.Code)
-			}
+			wantCodeAlone(t, what, q, got.Code, code, same(got, reply{Code: got.Code}))
 		})
+	}
+}
+
+// wantCodeAlone wants nothing beside a code, but where power failed that was there.
+func wantCodeAlone(t *testing.T, what string, q request, got, want int64, alone bool) {
+	t.Helper()
+	if got != want {
+		t.Errorf("%s: code %d, want %d", what, got, want)
+	}
+	told := got == impl.ErrDown && !q.World.Down
+	if got != impl.OK && !told && !alone {
+		t.Errorf("%s: something stands beside the code %d", what, got)
 	}
 }
 
