@@ -14,6 +14,7 @@ type outcome struct {
 	World       impl.World
 	Bytes       []byte
 	List        []int64
+	Recs        []impl.Rec
 }
 
 // worker is such a function: with what it goes well, what may be wrong with
@@ -29,6 +30,7 @@ type worker struct {
 func worldOutcome(r impl.WorldResult) outcome { return outcome{Code: r.Code, World: r.World} }
 func bytesOutcome(r impl.BytesResult) outcome { return outcome{Code: r.Code, Bytes: r.Bytes} }
 func intOutcome(r impl.IntResult) outcome     { return outcome{Code: r.Code, Value: r.Value} }
+func recsOutcome(r impl.RecsResult) outcome   { return outcome{Code: r.Code, Recs: r.Recs} }
 
 // plan is what a call writes, one raw write behind the other, and the code
 // that it has when these are done.
@@ -339,6 +341,14 @@ func wantOutcome(t *testing.T, what string, got, want outcome) {
 	t.Helper()
 	if !same(got, want) {
 		t.Errorf("%s: %+v, want %+v", what, got, want)
+	}
+}
+
+// wantAllPlain holds workers against what they answer by the document.
+func wantAllPlain(t *testing.T, what string, workers []worker, q request) {
+	t.Helper()
+	for _, f := range workers {
+		wantOutcome(t, f.name+", "+what, f.call(q), f.plain(q))
 	}
 }
 

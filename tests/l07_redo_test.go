@@ -119,18 +119,14 @@ func TestRedoKeepsItsArguments(t *testing.T) {
 
 func TestManyWorldsAreRedone(t *testing.T) {
 	eachMachine(700, 80, func(what string, q request) {
-		for _, f := range redoers() {
-			wantOutcome(t, f.name+", "+what, f.call(q), f.plain(q))
-		}
+		wantAllPlain(t, what, redoers(), q)
 	})
 }
 
 func TestManyWorldsWithoutPower(t *testing.T) {
 	eachMachine(710, 5, func(what string, q request) {
 		q.World = withoutPower(q.World)
-		for _, f := range redoers() {
-			wantOutcome(t, f.name+", "+what, f.call(q), f.plain(q))
-		}
+		wantAllPlain(t, what, redoers(), q)
 	})
 }
 
