@@ -14,6 +14,8 @@ type request struct {
 	Group, Drive, Row, Tape, Kind, Seq, Stop int64
 	Block                                    impl.Block
 	Rec                                      impl.Rec
+	Name                                     string
+	Bytes                                    []byte
 }
 
 // reply is what any of them answers.
