@@ -91,6 +91,54 @@ func TestDestagedAndPower(t *testing.T) {
 	})
 }
 
+// wantCutReads lets power fail at each write of a call in a world without
+// power; what is there then is read, as it is and when all is gone on with.
+func wantCutReads(t *testing.T, what string, down impl.World, home int64, call func(w impl.World) impl.WorldResult, read func(what string, w impl.World, stop int64)) {
+	t.Helper()
+	whole := call(poweredAgain(down, []int64{home}, -1))
+	if whole.Code != impl.OK {
+		t.Fatalf("%s: code %d", what, whole.Code)
+	}
+	for stop := range whole.World.Writes {
+		what := fmt.Sprint(what, ", cut at ", stop)
+		cut := call(poweredAgain(down, []int64{home}, stop))
+		if cut.Code != impl.ErrDown || cut.World.Writes != stop {
+			t.Fatalf("%s: code %d", what, cut.Code)
+		}
+		there := poweredAgain(cut.World, nil, -1)
+		read(what, there, stop)
+		read(what+", gone on with", gonePast(t, there, home).World, stop)
+	}
+}
+
+// Objects of all lengths, in worlds of all the least and greatest numbers, are
+// read wherever power was cut.
+func TestCutShortAndRead(t *testing.T) {
+	q := &sequence{state: 100}
+	eachExtreme(func(s impl.Shape) {
+		home := homeOfName(s, "a")
+		for length := int64(1); length <= 12*s.Data; length++ {
+			what, list := fmt.Sprint(s, ", ", length, " bytes"), q.list(int(length))
+			put := func(w impl.World) impl.WorldResult { return impl.PutItem(w, "a", list) }
+			wantCutReads(t, what+", put", impl.CutPower(plainWorld(s)).World, home, put, func(what string, w impl.World, stop int64) {
+				if stop == 0 {
+					wantCode(t, what, impl.ItemBytes(w, "a"), impl.ErrNone)
+				} else {
+					wantRead(t, what, w, "a", list)
+				}
+			})
+			if partsOf(s.Data, length) > s.Rows {
+				continue
+			}
+			down := impl.CutPower(putWorld(t, s, "a", list)).World
+			destage := func(w impl.World) impl.WorldResult { return impl.DestageOne(w, home) }
+			wantCutReads(t, what+", destaged", down, home, destage, func(what string, w impl.World, _ int64) {
+				wantRead(t, what, w, "a", list)
+			})
+		}
+	})
+}
+
 // wantGoneOn goes on at once, and behind all that is done again, with power
 // cut once more at each third write of that, from one on.
 func wantGoneOn(t *testing.T, what string, down impl.World, lies, waits []byte, from int64) {
