@@ -42,7 +42,7 @@ func comesAhead(a, b impl.Rec) bool {
 }
 
 func holds(recs []impl.Rec, wanted impl.Rec) bool {
-	return slices.ContainsFunc(recs, func(r impl.Rec) bool { return same(r, wanted) })
+	return slices.ContainsFunc(recs, func(r impl.Rec) bool { return r.Seq == wanted.Seq && same(r, wanted) })
 }
 
 // withTapes is a world of mixed blocks whose tapes have just these records.

@@ -234,15 +234,20 @@ func plainRedoAll(q request) outcome {
 		return outcome{Code: code}
 	}
 	p := planIn(q.World)
-	if q.Group >= s.Groups || !isDeadIn(q.World, q.Group) {
-		for _, move := range plainUndone(question{World: q.World, Group: q.Group}).Recs {
-			if p.code == impl.OK {
-				p.redo(q.Group, move)
-				p.lay(doneOf(move.Seq, q.Group))
-			}
+	p.redoAll(q.Group)
+	return p.outcome()
+}
+
+func (p *plan) redoAll(group int64) {
+	if group < p.now.Shape.Groups && isDeadIn(p.now, group) {
+		return
+	}
+	for _, move := range plainUndone(question{World: p.now, Group: group}).Recs {
+		if p.code == impl.OK {
+			p.redo(group, move)
+			p.lay(doneOf(move.Seq, group))
 		}
 	}
-	return p.outcome()
 }
 
 func plainRepair(q request) outcome {
@@ -250,15 +255,25 @@ func plainRepair(q request) outcome {
 		return outcome{Code: impl.ErrDown}
 	}
 	p := planIn(q.World)
-	for tape := range int64(2) {
-		for _, r := range plainMissing(question{World: q.World, Tape: tape}).Recs {
-			p.appendTo(tape, r)
+	p.repair()
+	return p.outcome()
+}
+
+func (p *plan) repair() {
+	var missing [2][]impl.Rec
+	for tape := range missing {
+		missing[tape] = plainMissing(question{World: p.now, Tape: int64(tape)}).Recs
+		if len(p.now.Tapes[tape].Recs)+len(missing[tape]) > 200 {
+			p.code = impl.ErrMany
 		}
 	}
-	if max(len(p.now.Tapes[0].Recs), len(p.now.Tapes[1].Recs)) > 200 {
-		return outcome{Code: impl.ErrMany}
+	for tape, recs := range missing {
+		for _, r := range recs {
+			if p.code == impl.OK {
+				p.appendTo(int64(tape), r)
+			}
+		}
 	}
-	return p.outcome()
 }
 
 func plainClean(q request) outcome {
@@ -266,14 +281,18 @@ func plainClean(q request) outcome {
 		return outcome{Code: impl.ErrDown}
 	}
 	p := planIn(q.World)
+	p.clean()
+	return p.outcome()
+}
+
+func (p *plan) clean() {
 	struck := map[[2]int64]bool{}
-	for _, r := range plainSpent(question{World: q.World}).Recs {
+	for _, r := range plainSpent(question{World: p.now}).Recs {
 		if !struck[[2]int64{r.Kind, r.Seq}] {
 			p.strike(r.Kind, r.Seq)
 		}
 		struck[[2]int64{r.Kind, r.Seq}] = true
 	}
-	return p.outcome()
 }
 
 // anyMachine is a world of which some groups are on, with drives wiped, and

@@ -122,16 +122,22 @@ func plainBegin(q request) outcome {
 	if !isGroupIn(s, q.Group) || !isRowIn(s, q.Row) {
 		return outcome{Code: impl.ErrRange}
 	}
-	sharers := plainSharers(q)
-	if sharers.Code != impl.OK {
-		return sharers
-	}
-	if len(plainOpen(q.World, q.Group, q.Row)) > 0 {
-		return outcome{Code: impl.ErrTaken}
-	}
 	p := planIn(q.World)
-	p.layNext(impl.Rec{Kind: impl.RecShare, Group: q.Group, Row: q.Row, Data: make([]byte, 4*s.Data), Delta: sharers.Bytes})
+	p.begin(q.Group, q.Row)
 	return p.outcome()
+}
+
+func (p *plan) begin(group, row int64) {
+	sharers := plainSharers(request{World: p.now, Group: group})
+	switch {
+	case p.code != impl.OK:
+	case sharers.Code != impl.OK:
+		p.code = sharers.Code
+	case len(plainOpen(p.now, group, row)) > 0:
+		p.code = impl.ErrTaken
+	default:
+		p.layNext(impl.Rec{Kind: impl.RecShare, Group: group, Row: row, Data: make([]byte, 4*p.now.Shape.Data), Delta: sharers.Bytes})
+	}
 }
 
 func plainGive(q request) outcome {
@@ -140,20 +146,24 @@ func plainGive(q request) outcome {
 		return outcome{Code: code}
 	}
 	p := planIn(q.World)
-	eachPlace(s, func(group, row int64) {
+	p.give(q.Group)
+	return p.outcome()
+}
+
+func (p *plan) give(from int64) {
+	eachPlace(p.now.Shape, func(group, row int64) {
 		open := plainOpen(p.now, group, row)
-		if isDeadIn(q.World, q.Group) || len(open) == 0 || !isLeft(open[0], q.Group) {
+		if isDeadIn(p.now, from) || len(open) == 0 || !isLeft(open[0], from) {
 			return
 		}
 		given := deepCopy(open[0], 0)
-		given.Rows = append(given.Rows, q.Group)
+		given.Rows = append(given.Rows, from)
 		slices.Sort(given.Rows)
-		for i, b := range plainRowBytes(request{World: p.now, Group: q.Group, Row: row}).Bytes {
-			given.Data[i] ^= impl.MulG(b, given.Delta[q.Group])
+		for i, b := range plainRowBytes(request{World: p.now, Group: from, Row: row}).Bytes {
+			given.Data[i] ^= impl.MulG(b, given.Delta[from])
 		}
 		p.layNext(given)
 	})
-	return p.outcome()
 }
 
 func plainWhole(q request) outcome {
@@ -190,10 +200,14 @@ func plainDrop(q request) outcome {
 		return outcome{Code: impl.ErrDown}
 	}
 	p := planIn(q.World)
-	for _, void := range plainVoid(q).Recs {
+	p.dropVoid()
+	return p.outcome()
+}
+
+func (p *plan) dropVoid() {
+	for _, void := range plainVoid(request{World: p.now}).Recs {
 		p.lay(doneOf(void.Seq, void.Group))
 	}
-	return p.outcome()
 }
 
 // lastSeq lets there be no next one.

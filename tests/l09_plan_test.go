@@ -110,27 +110,35 @@ func plainDestage(q request) outcome {
 	if code := placeCode(q.World, isDataIn(s, q.Group), q.Group); code != impl.OK {
 		return outcome{Code: code}
 	}
-	if isDeadIn(q.World, q.Group) {
-		return outcome{Code: impl.ErrLost}
-	}
-	next := plainNextDestage(q)
-	if next.Code != impl.OK {
-		return next
+	p := planIn(q.World)
+	p.destage(q.Group)
+	return p.outcome()
+}
+
+func (p *plan) destage(group int64) {
+	s := p.now.Shape
+	next := plainNextDestage(request{World: p.now, Group: group})
+	switch {
+	case isDeadIn(p.now, group):
+		p.code = impl.ErrLost
+		return
+	case next.Code != impl.OK:
+		p.code = next.Code
+		return
 	}
 	item := next.Recs[0]
 	parts := partsOf(s.Data, item.Length)
-	if mostRecs(q.World) > 200-(2*parts+1) || seqAfter(q.World)+parts > impl.MaxSeq {
-		return outcome{Code: impl.ErrMany}
+	if mostRecs(p.now) > 200-(2*parts+1) || seqAfter(p.now)+parts > impl.MaxSeq {
+		p.code = impl.ErrMany
+		return
 	}
-	rows := plainFree(question{World: q.World, Group: q.Group}).List[:parts]
+	rows := plainFree(question{World: p.now, Group: group}).List[:parts]
 	rest := append(slices.Clone(item.Data), make([]byte, 4*s.Data)...)
-	p := planIn(q.World)
 	for _, row := range rows {
-		p.move(q.Group, row, rest[:4*s.Data])
+		p.move(group, row, rest[:4*s.Data])
 		rest = rest[4*s.Data:]
 	}
 	p.lay(rowsItem(seqAfter(p.now), item.Name, item.Length, rows...))
-	return p.outcome()
 }
 
 func plainPut(q request) outcome {

@@ -53,18 +53,16 @@ func plainBeginAll(q request) outcome {
 		return outcome{Code: impl.ErrRange}
 	}
 	p := planIn(q.World)
-	for row := range s.Rows {
-		if !isDeadIn(q.World, q.Group) || len(plainOpen(p.now, q.Group, row)) > 0 || p.code != impl.OK {
-			continue
-		}
-		sharers := plainSharers(q)
-		if sharers.Code != impl.OK {
-			p.code = sharers.Code
-			continue
-		}
-		p.layNext(impl.Rec{Kind: impl.RecShare, Group: q.Group, Row: row, Data: make([]byte, 4*s.Data), Delta: sharers.Bytes})
-	}
+	p.beginAll(q.Group)
 	return p.outcome()
+}
+
+func (p *plan) beginAll(group int64) {
+	for row := range p.now.Shape.Rows {
+		if isDeadIn(p.now, group) && len(plainOpen(p.now, group, row)) == 0 {
+			p.begin(group, row)
+		}
+	}
 }
 
 func plainNotReady(q request) outcome {
@@ -126,20 +124,26 @@ func plainRebuild(q request) outcome {
 		return outcome{Code: code}
 	}
 	p := planIn(q.World)
-	wiped := wipedIn(q.World, q.Group)
-	for row := range q.World.Shape.Rows {
-		blocks := rebuiltBlocks(q.World, q.Group, row)
+	p.rebuild(q.Group)
+	return p.outcome()
+}
+
+// rebuild wants a group for which rebuildCode is OK.
+func (p *plan) rebuild(group int64) {
+	was := deepCopy(p.now, 0)
+	wiped := wipedIn(was, group)
+	for row := range was.Shape.Rows {
+		blocks := rebuiltBlocks(was, group, row)
 		for _, drive := range wiped {
-			p.write(func(w *impl.World) { w.Groups[q.Group][drive].Blocks[row] = blocks[drive] })
+			p.write(func(w *impl.World) { w.Groups[group][drive].Blocks[row] = blocks[drive] })
 		}
 	}
 	for _, drive := range wiped {
-		p.write(func(w *impl.World) { w.Groups[q.Group][drive].Wiped = false })
+		p.write(func(w *impl.World) { w.Groups[group][drive].Wiped = false })
 	}
-	for _, open := range openIn(q.World, q.Group) {
-		p.lay(doneOf(open.Seq, q.Group))
+	for _, open := range openIn(was, group) {
+		p.lay(doneOf(open.Seq, group))
 	}
-	return p.outcome()
 }
 
 func plainColumnHolds(q request) outcome {
