@@ -15,6 +15,7 @@ type outcome struct {
 	Bytes       []byte
 	List        []int64
 	Recs        []impl.Rec
+	Things      []impl.Thing
 }
 
 // worker is such a function: with what it goes well, what may be wrong with

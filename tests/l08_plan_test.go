@@ -70,8 +70,6 @@ func unitColumn(s impl.Shape, number int64) [][]byte {
 	return plainColumn(lists, s.Column)
 }
 
-// plainSharers solves for the bytes by which the living groups sum up to the
-// group in each of the columns that all others are made of.
 func plainSharers(q request) outcome {
 	s := q.World.Shape
 	if !isGroupIn(s, q.Group) {
@@ -86,21 +84,28 @@ func plainSharers(q request) outcome {
 	if int64(len(living)) < s.Groups {
 		return outcome{Code: impl.ErrLost}
 	}
+	told := outcome{Bytes: make([]byte, s.Groups+s.Column)}
+	for i, weight := range solvedWeights(s, living, q.Group) {
+		told.Bytes[living[i]] = weight
+	}
+	return told
+}
+
+// solvedWeights are the bytes by which the living groups, as many as there are
+// groups of data, sum up to the group in each of the columns that all others
+// are made of.
+func solvedWeights(s impl.Shape, living []int64, group int64) []byte {
 	var rows [][]byte
 	var right []byte
 	for number := range s.Groups {
 		column := unitColumn(s, number)
 		row := []byte{}
-		for _, group := range living {
-			row = append(row, column[group][0])
+		for _, other := range living {
+			row = append(row, column[other][0])
 		}
-		rows, right = append(rows, row), append(right, column[q.Group][0])
+		rows, right = append(rows, row), append(right, column[group][0])
 	}
-	told := outcome{Bytes: make([]byte, s.Groups+s.Column)}
-	for i, weight := range impl.SolveG(rows, right).Bytes {
-		told.Bytes[living[i]] = weight
-	}
-	return told
+	return impl.SolveG(rows, right).Bytes
 }
 
 func plainOpenShare(q request) outcome {

@@ -11,21 +11,26 @@ import (
 )
 
 // archiveWalk makes one call at an archive after the other, and knows what was
-// put, who waits for which object, and what it met with.
+// put, as a map and as things, who waits for which object, and what it met with.
 type archiveWalk struct {
-	q     *sequence
-	a     impl.Archive
-	truth map[string][]byte
-	reads map[int64]string
-	met   map[string]int
+	q      *sequence
+	a      impl.Archive
+	truth  map[string][]byte
+	things []impl.Thing
+	reads  map[int64]string
+	met    map[string]int
 }
 
 func newArchiveWalk(s impl.Shape, seed uint64) *archiveWalk {
-	return &archiveWalk{&sequence{state: seed}, impl.NewArchive(s).Archive, map[string][]byte{}, map[int64]string{}, map[string]int{}}
+	return &archiveWalk{&sequence{state: seed}, impl.NewArchive(s).Archive, map[string][]byte{}, nil, map[int64]string{}, map[string]int{}}
+}
+
+func walkNames() []string {
+	return []string{"a", "b", "c", "d", "e", "f1", "g2", "zzzzzzzz"}
 }
 
 func (w *archiveWalk) name() string {
-	return []string{"a", "b", "c", "d", "e", "f1", "g2", "zzzzzzzz"}[w.q.pick(8)]
+	return walkNames()[w.q.pick(8)]
 }
 
 // take goes on with what a call tells that has no code, or ErrDown because
@@ -105,8 +110,10 @@ func (w *archiveWalk) changed(t *testing.T, name string, list []byte, wholly boo
 	}
 	if now && list != nil {
 		w.truth[name] = list
+		w.things = impl.PutThing(w.things, name, list)
 	} else if now {
 		delete(w.truth, name)
+		w.things = impl.DropThing(w.things, name)
 	}
 }
 
