@@ -339,3 +339,39 @@ func TestEachGroupMayDie(t *testing.T) {
 		}
 	}
 }
+
+// Each name that was dropped leaves a record: tapes that are full by these
+// refuse what is put, and lose nothing of what was.
+func TestScriptsThatFillTheTapes(t *testing.T) {
+	for i, s := range walkShapes()[1:4] {
+		w := newScriptWalk(s, 1520+uint64(i))
+		for _, line := range []string{"put a 0102030405", "put b 06", "turn 9", "put c 0708090a0b0c0d0e0f"} {
+			w.say(t, line)
+		}
+		for number := range 230 {
+			name := fmt.Sprint("x", number)
+			w.say(t, spaced("put", name, "0a"))
+			w.say(t, spaced("drop", name))
+			if number%12 == 11 {
+				w.say(t, spaced("turn", 1+number%5))
+			}
+			if number%30 == 29 {
+				w.say(t, "cut")
+				w.say(t, spaced("open", number%7))
+				w.say(t, "turn 5")
+				w.say(t, "cut")
+				w.say(t, "open")
+			}
+		}
+		wantMet(t, w.met, 10, "put 2", "put 0", "drop 0", "turn 0")
+		if recs := mostRecs(w.a.World); recs < 199 {
+			t.Errorf("only %d records", recs)
+		}
+		w.say(t, "turn 50")
+		for _, name := range []string{"a", "b", "c"} {
+			if _, there := w.truth[name]; !there {
+				t.Errorf("%s is not there", name)
+			}
+		}
+	}
+}
